@@ -436,6 +436,15 @@ func TestP4_9(t *testing.T) {
 				t.Fatal("P4.12")
 			}
 		}
+		c.Mode = api.ModeUp
+		light, _ := Loads(s, p, c)
+		c.Mud += roll(500)
+		heavy, _ := Loads(s, p, c)
+		for i := range light {
+			if heavy[i].Tension.Hi > light[i].Tension.Hi && !slices.ContainsFunc(p.Legs, func(leg api.Vec) bool { return leg.Z < 0 }) {
+				t.Fatal("P4.12, a heavier mud")
+			}
+		}
 		l := []api.Row{{Turn: api.Part{N: 1, D: 9}, Turns: 1000003}, {Turn: api.Part{N: 1, D: 1}, Turns: 70001}}
 		n, m := roll(50), roll(50)
 		x, _ := Turn(s, p, l, n)
