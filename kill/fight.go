@@ -38,11 +38,20 @@ func (f fight) between(low, high int64) span {
 	return span{f.height(low).Lo, f.height(high).Hi}
 }
 
-// moment is what the step is like with an error of the choke.
+// scene is what the step is like with an error of the choke.
+func (f fight) scene(step, err int) scene {
+	return f.program.scene(f, f.pumped(step), bottom(f.plan, f.kick, err))
+}
+
+// pumped is how much was pumped at the step.
+func (f fight) pumped(step int) int64 {
+	return int64(step) * f.well.Step
+}
+
+// moment is the moment of a step with an error of the choke.
 func (f fight) moment(step, err int) api.Moment {
-	pumped := int64(step) * f.well.Step
-	s := f.program.scene(f, pumped, bottom(f.plan, f.kick, err))
-	m := api.Moment{Pumped: pumped, Gas: api.Range(s.gas), Base: api.Range(s.base), Surface: api.Range(s.surface)}
+	s := f.scene(step, err)
+	m := api.Moment{Pumped: f.pumped(step), Gas: api.Range(s.gas), Base: api.Range(s.base), Surface: api.Range(s.surface)}
 	for _, p := range f.well.Points {
 		m.Points = append(m.Points, api.Range(s.press(p.At)))
 	}
@@ -51,12 +60,12 @@ func (f fight) moment(step, err int) api.Moment {
 
 // isDone reports whether a step is the last one: the gas may be at the choke, or is all pushed back.
 func (f fight) isDone(step int) bool {
-	m := f.moment(step, -1)
+	gas := f.scene(step, -1).gas.Hi
 	switch f.program.(type) {
 	case bull:
-		return m.Gas.Hi == 0
+		return gas == 0
 	default:
-		return m.Pumped+m.Gas.Hi >= f.volume
+		return f.pumped(step)+gas >= f.volume
 	}
 }
 
