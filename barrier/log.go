@@ -87,10 +87,14 @@ func (r *reader) getInt() int {
 	return int(r.get())
 }
 
-// getRows reads how many rows there are, and each of them. There are never more rows than numbers.
+// getRows reads how many rows there are, and each of them. No log has more rows of a kind than entries, so a greater number is none.
 func getRows[T any](r *reader, row func(r *reader) T) []T {
+	n := r.get()
+	if n > api.MaxEntries {
+		return nil
+	}
 	var l []T
-	for n := r.get(); n > 0 && len(r.rest) >= 8; n-- {
+	for range n {
 		l = append(l, row(r))
 	}
 	return l

@@ -29,7 +29,7 @@ func TestP2_3Check(t *testing.T) {
 		e      api.Errno
 	}{
 		{func(e *api.Earth) {}, api.OK}, {func(e *api.Earth) { e.Bottom = 0 }, api.ErrRange}, {func(e *api.Earth) { e.Bottom = 1<<20 + 1 }, api.ErrRange}, {func(e *api.Earth) { e.Bottom = 1 << 20 }, api.OK}, {func(e *api.Earth) { e.Bottom = 1 }, api.OK},
-		{func(e *api.Earth) { e.GLo = -1 }, api.ErrRange}, {func(e *api.Earth) { e.GLo = 30001 }, api.ErrRange}, {func(e *api.Earth) { e.GLo = 30000 }, api.OK}, {func(e *api.Earth) { e.GHi = 40001 }, api.ErrRange}, {func(e *api.Earth) { e.GHi = 40000 }, api.OK}, {func(e *api.Earth) { e.GHi = -1 }, api.ErrRange},
+		{func(e *api.Earth) { e.GLo = -1 }, api.ErrRange}, {func(e *api.Earth) { e.GLo = 30001 }, api.ErrRange}, {func(e *api.Earth) { e.GLo = 30000 }, api.OK}, {func(e *api.Earth) { e.GHi = 40001 }, api.ErrRange}, {func(e *api.Earth) { e.GHi = 40000 }, api.OK}, {func(e *api.Earth) { e.GHi = -1 }, api.ErrRange}, {func(e *api.Earth) { e.GHi = 0 }, api.OK},
 		{func(e *api.Earth) { e.GHi, e.PoreLo = -1, line() }, api.ErrRange},
 		{func(e *api.Earth) { e.PoreLo, e.PoreHi = line(), line(3, 3, 3, 3) }, api.ErrShort}, {func(e *api.Earth) { e.PoreHi, e.FracLo = line(3, 3, 3, 3), line() }, api.ErrOrder},
 		{func(e *api.Earth) { e.FracLo, e.FracHi = many(25), line() }, api.ErrFull}, {func(e *api.Earth) { e.FracHi = line(1<<20+1, 0) }, api.ErrRange}, {func(e *api.Earth) { e.FracHi, e.PoreHi = line(0, 1<<36+1), line(0, 0) }, api.ErrRange},
@@ -117,11 +117,32 @@ func TestP2_3Ranges(t *testing.T) {
 			t.Error(i, p, f)
 		}
 	}
+	// The knots at the bottom count, too; and values between whole numbers are rounded outwards.
+	deep := api.Earth{Bottom: 100, PoreLo: line(0, 0, 3, 10), PoreHi: line(0, 900, 100, 1000), FracLo: line(0, 20, 3, 40, 100, 50), FracHi: line(0, 90000, 100, 90001), GLo: 0, GHi: 40}
+	for i, c := range []struct {
+		glo, z     int64
+		pore, frac api.Range
+	}{
+		{0, 1, span(3, 901), span(26, 90001)}, {0, 2, span(6, 902), span(33, 90001)}, {0, 100, span(10, 1000), span(50, 90001)}, {10, 50, span(500, 500), span(520, 89501)},
+	} {
+		deep.GLo = c.glo
+		if p, f := Pore(deep, c.z), Frac(deep, c.z); p != c.pore || f != c.frac {
+			t.Error(i, p, f)
+		}
+	}
 	if d := Depths(told(report(2, 777, 5), report(1, 50, 5), report(2, 777, 6))); !slices.Equal(d, []int64{0, 50, 777, 100000}) {
 		t.Error(d)
 	}
 	if d := Depths(e); !slices.Equal(d, []int64{0, 50, 60, 80, 100}) {
 		t.Error(d)
+	}
+}
+
+// fine makes a truth whose fracture pressure at 1 is a third more than 350000003, and an earth with reports.
+func fine(l ...api.Report) func(e *api.Earth, t *api.Truth) {
+	return func(e *api.Earth, t *api.Truth) {
+		t.Frac = line(0, 350000000, 3, 350000010, 100000, 1700000000)
+		e.FracHi, e.FracLo, e.Reports = line(0, 400000000, 100000, 2000000000), line(0, 0, 100000, 1500000000), l
 	}
 }
 
@@ -173,6 +194,16 @@ func TestP2_3Fits(t *testing.T) {
 			t.Pore = line(0, 0, 3, 10, 100000, 1000000000)
 			e.PoreHi = line(0, 10, 100000, 1200000000)
 			e.PoreLo, e.Reports = line(0, 0), []api.Report{report(2, 1, 3)}
+		}, false},
+		{fine(report(3, 1, 350000003), report(4, 1, 350000004)), true}, {fine(report(3, 1, 350000004)), false}, {fine(report(4, 1, 350000003)), false},
+		// Only at the surface they differ.
+		{func(e *api.Earth, t *api.Truth) { e.PoreLo = line(0, 1, 1, 0, 100000, 900000000) }, false}, {func(e *api.Earth, t *api.Truth) {
+			t.Pore, e.PoreHi = line(0, 3, 100000, 1000000000), line(0, 2, 1, 30000, 100000, 1200000000)
+		}, false},
+		{func(e *api.Earth, t *api.Truth) {
+			e.FracLo, e.FracHi = line(0, 1, 1, 0, 100000, 1500000000), line(0, 1, 100000, 2000000000)
+		}, false}, {func(e *api.Earth, t *api.Truth) {
+			t.Frac, e.FracHi = line(0, 3, 100000, 1700000000), line(0, 2, 1, 30000, 100000, 2000000000)
 		}, false},
 	} {
 		e, x := example(), api.Truth{Pore: Copy(api.Earth{PoreLo: good.Pore}).PoreLo, Frac: good.Frac}

@@ -191,7 +191,7 @@ func TestP3_3Equivalent(t *testing.T) {
 	}{
 		{column(12000, 1100000), 0, 0, span(12000, 12000), api.OK}, {column(12000, 1100000), 1, 0, span(12000, 12001), api.OK}, {column(12000, 1100000), -1, 0, span(0, 0), api.ErrRange}, {column(12000, 1100000), 0, 1100001, span(0, 0), api.ErrRange},
 		{column(12000, 1100000), 0, 1100000, span(0, 0), api.ErrRange}, {column(12000, 1100000), 7, 1099999, span(7, 12007), api.OK}, {column(12000, 1100000), 0, 1099500, span(6000, 24000), api.OK},
-		{column(0, 1099998, 40000, 1, 0, 1), 0, 1099998, span(0, 40000), api.OK},
+		{column(0, 1099998, 40000, 1, 0, 1), 0, 1099998, span(0, 40000), api.OK}, {column(0, 1100000), 0, 0, span(0, 0), api.OK},
 	} {
 		if p, e := Equivalent(h, c.l, c.top, c.u); p != c.want || e != c.e {
 			t.Error(i, p, e)

@@ -145,9 +145,11 @@ func Accept(p api.Plan) (api.Verdict, api.Errno) {
 		return api.Verdict{}, e
 	}
 	for i := range p.Phases {
-		if v := judge(p, i); v != (api.Verdict{OK: true, Phase: i}) {
-			return v, api.OK
+		v := judge(p, i)
+		if v == (api.Verdict{OK: true, Phase: i}) {
+			continue
 		}
+		return v, api.OK
 	}
 	return api.Verdict{OK: true}, api.OK
 }

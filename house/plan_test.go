@@ -73,6 +73,17 @@ func two() api.Plan {
 	return p
 }
 
+// six are six phases.
+func six() []api.Phase {
+	var l []api.Phase
+	for i := range int64(6) {
+		x := lower()
+		x.Job, x.To, x.Shoe = api.Job{}, 95000+i, 20000
+		l = append(l, x)
+	}
+	return l
+}
+
 func TestP10_1Check(t *testing.T) {
 	type change = func(p *api.Plan, x *api.Phase)
 	tests := make([]api.Test, 25)
@@ -82,7 +93,9 @@ func TestP10_1Check(t *testing.T) {
 	}{
 		{func(p *api.Plan, x *api.Phase) {}, api.OK}, {func(p *api.Plan, x *api.Phase) { p.Earth.PoreLo, p.Grid = line(), 0 }, api.ErrShort}, {func(p *api.Plan, x *api.Phase) { p.Earth.PoreHi = line(0, 0) }, api.ErrClash}, {func(p *api.Plan, x *api.Phase) { p.Grid, p.Phases = 9, nil }, api.ErrRange}, {func(p *api.Plan, x *api.Phase) { p.Grid = 1<<20 + 1 }, api.ErrRange}, {func(p *api.Plan, x *api.Phase) { p.Grid = 1 << 20 }, api.OK},
 		{func(p *api.Plan, x *api.Phase) { p.Phases = nil }, api.ErrShort}, {func(p *api.Plan, x *api.Phase) { p.Phases = make([]api.Phase, 7) }, api.ErrFull}, {func(p *api.Plan, x *api.Phase) { p.Phases = []api.Phase{{}, {}} }, api.ErrRange},
-		{func(p *api.Plan, x *api.Phase) { x.Tick = -1 }, api.ErrRange}, {func(p *api.Plan, x *api.Phase) { x.Tick = 1 << 40 }, api.OK}, {func(p *api.Plan, x *api.Phase) { x.Tick = 1<<40 + 1 }, api.ErrRange}, {func(p *api.Plan, x *api.Phase) { x.Age = -1 }, api.ErrRange}, {func(p *api.Plan, x *api.Phase) { x.Age = 1<<40 + 1 }, api.ErrRange},
+		{func(p *api.Plan, x *api.Phase) { x.Tick = -1 }, api.ErrRange}, {func(p *api.Plan, x *api.Phase) {
+			p.Phases[0].Tick, p.Phases[0].Age, p.Phases[0].Mud, p.Phases[0].Notice = 0, 0, api.Mud{Yield: 0, Visc: 1}, 0
+		}, api.OK}, {func(p *api.Plan, x *api.Phase) { p.Phases = six() }, api.OK}, {func(p *api.Plan, x *api.Phase) { x.Tick = 1 << 40 }, api.OK}, {func(p *api.Plan, x *api.Phase) { x.Tick = 1<<40 + 1 }, api.ErrRange}, {func(p *api.Plan, x *api.Phase) { x.Age = -1 }, api.ErrRange}, {func(p *api.Plan, x *api.Phase) { x.Age = 1<<40 + 1 }, api.ErrRange},
 		{func(p *api.Plan, x *api.Phase) { x.Shoe = -1 }, api.ErrRange}, {func(p *api.Plan, x *api.Phase) { x.Shoe = 100000 }, api.ErrRange}, {func(p *api.Plan, x *api.Phase) { x.To, x.Long = 100001, 0 }, api.ErrRange}, {func(p *api.Plan, x *api.Phase) { x.Sea = -1 }, api.ErrRange}, {func(p *api.Plan, x *api.Phase) { x.Sea = 100000 }, api.OK}, {func(p *api.Plan, x *api.Phase) { x.Sea = 100001 }, api.ErrRange},
 		{func(p *api.Plan, x *api.Phase) { x.Light = -1 }, api.ErrRange}, {func(p *api.Plan, x *api.Phase) { x.Light = 40001 }, api.ErrRange}, {func(p *api.Plan, x *api.Phase) { x.Weight = -1 }, api.ErrRange}, {func(p *api.Plan, x *api.Phase) { x.Weight = 40001 }, api.ErrRange}, {func(p *api.Plan, x *api.Phase) { x.Top = -1 }, api.ErrRange}, {func(p *api.Plan, x *api.Phase) { x.Top = 1<<36 + 1 }, api.ErrRange}, {func(p *api.Plan, x *api.Phase) { x.Top = 1 << 36 }, api.OK},
 		{func(p *api.Plan, x *api.Phase) { x.Flow = -1 }, api.ErrRange}, {func(p *api.Plan, x *api.Phase) { x.Flow = 1000001 }, api.ErrRange}, {func(p *api.Plan, x *api.Phase) { x.Flow = 1000000 }, api.OK}, {func(p *api.Plan, x *api.Phase) { x.Mud.Yield = -1 }, api.ErrRange}, {func(p *api.Plan, x *api.Phase) { x.Mud.Yield = 1000001 }, api.ErrRange}, {func(p *api.Plan, x *api.Phase) { x.Mud.Visc = 0 }, api.ErrRange}, {func(p *api.Plan, x *api.Phase) { x.Mud.Visc = 1000001 }, api.ErrRange}, {func(p *api.Plan, x *api.Phase) { x.Notice = -1 }, api.ErrRange}, {func(p *api.Plan, x *api.Phase) { x.Notice = 1<<40 + 1 }, api.ErrRange},
@@ -113,7 +126,7 @@ func TestP10_1Static(t *testing.T) {
 		z, want int64
 	}{
 		{func(x *api.Phase) {}, 500, 4905005}, {func(x *api.Phase) {}, 2000, 21810005}, {func(x *api.Phase) {}, 0, 5}, {func(x *api.Phase) {}, 1000, 9810005}, {func(x *api.Phase) {}, 3000, 33810005}, {func(x *api.Phase) {}, 3001, 0}, {func(x *api.Phase) {}, -1, 0}, {func(x *api.Phase) {}, -1 << 63, 0},
-		{func(x *api.Phase) { x.Sea = 0 }, 2000, 24000005}, {func(x *api.Phase) { x.Sea = 3001 }, 500, 0}, {func(x *api.Phase) { x.Sea = -1 }, 500, 0}, {func(x *api.Phase) { x.Light = 40001 }, 500, 0}, {func(x *api.Phase) { x.Light = -1 }, 500, 0}, {func(x *api.Phase) { x.Weight = 40001 }, 500, 0}, {func(x *api.Phase) { x.Weight = -1 }, 500, 0}, {func(x *api.Phase) { x.Top = -1 }, 500, 0}, {func(x *api.Phase) { x.Top = 1<<36 + 1 }, 500, 0}, {func(x *api.Phase) { x.To = 1<<20 + 1 }, 500, 0}, {func(x *api.Phase) { x.To = 1 << 20 }, 500, 4905005}, {func(x *api.Phase) { x.To, x.Sea = 0, 0 }, 0, 0},
+		{func(x *api.Phase) { x.Sea = 0 }, 2000, 24000005}, {func(x *api.Phase) { x.Sea = 3001 }, 500, 0}, {func(x *api.Phase) { x.Sea = -1 }, 500, 0}, {func(x *api.Phase) { x.Light = 40001 }, 500, 0}, {func(x *api.Phase) { x.Light = -1 }, 500, 0}, {func(x *api.Phase) { x.Weight = 40001 }, 500, 0}, {func(x *api.Phase) { x.Weight = -1 }, 500, 0}, {func(x *api.Phase) { x.Top = -1 }, 500, 0}, {func(x *api.Phase) { x.Top = 1<<36 + 1 }, 500, 0}, {func(x *api.Phase) { x.To = 1<<20 + 1 }, 500, 0}, {func(x *api.Phase) { x.To = 1 << 20 }, 500, 4905005}, {func(x *api.Phase) { x.To, x.Sea = 0, 0 }, 0, 0}, {func(x *api.Phase) { x.To, x.Sea = 1, 0 }, 1, 12005},
 		{func(x *api.Phase) { x.Shoe, x.Tick, x.Flow, x.Mud.Yield, x.Gap = 5000, -1, -1, -1, -1 }, 500, 4905005},
 	} {
 		y := x
@@ -132,7 +145,7 @@ func TestP10_1Loss(t *testing.T) {
 		ok      bool
 	}{
 		{func(x *api.Phase) {}, 2000, 8001, true}, {func(x *api.Phase) {}, 0, 0, true}, {func(x *api.Phase) {}, 3000, 12000, true}, {func(x *api.Phase) {}, 1, 6, true}, {func(x *api.Phase) {}, 3001, 0, false}, {func(x *api.Phase) {}, -1, 0, false}, {func(x *api.Phase) { x.Flow = 0 }, 2000, 0, true}, {func(x *api.Phase) { x.Mud.Yield = 1000000 }, 2000, 0, false},
-		{func(x *api.Phase) { x.Flow = -1 }, 2000, 0, false}, {func(x *api.Phase) { x.Flow = 1000001 }, 2000, 0, false}, {func(x *api.Phase) { x.Mud.Visc = 0 }, 2000, 0, false}, {func(x *api.Phase) { x.Long = 2999 }, 2000, 0, false}, {func(x *api.Phase) { x.Long = 1<<20 + 1 }, 2000, 0, false}, {func(x *api.Phase) { x.Area = 0 }, 2000, 0, false}, {func(x *api.Phase) { x.Gap = 0 }, 2000, 0, false}, {func(x *api.Phase) { x.To = 0 }, 0, 0, false}, {func(x *api.Phase) { x.To = -1 << 63 }, -5, 0, false},
+		{func(x *api.Phase) { x.Flow = -1 }, 2000, 0, false}, {func(x *api.Phase) { x.Flow = 1000001 }, 2000, 0, false}, {func(x *api.Phase) { x.Mud.Visc = 0 }, 2000, 0, false}, {func(x *api.Phase) { x.Long = 2999 }, 2000, 0, false}, {func(x *api.Phase) { x.Long = 1<<20 + 1 }, 2000, 0, false}, {func(x *api.Phase) { x.Area = 0 }, 2000, 0, false}, {func(x *api.Phase) { x.Gap = 0 }, 2000, 0, false}, {func(x *api.Phase) { x.To = 0 }, 0, 0, false}, {func(x *api.Phase) { x.To, x.Long = 1, 1 }, 1, 3, true}, {func(x *api.Phase) { x.To = -1 << 63 }, -5, 0, false},
 		{func(x *api.Phase) { x.Shoe, x.Tick, x.Notice = 5000, -1, -1 }, 2000, 8001, true},
 	} {
 		y := x
@@ -240,6 +253,7 @@ func TestP10_2Weights(t *testing.T) {
 	}{
 		{func(p *api.Plan, x *api.Phase) {}, api.Range{Lo: 12000, Hi: 15000}}, {func(p *api.Plan, x *api.Phase) { x.Top = 1 }, api.Range{Lo: 12000, Hi: 14999}}, {func(p *api.Plan, x *api.Phase) { x.Top = 20000 }, api.Range{Lo: 12000, Hi: 14999}}, {func(p *api.Plan, x *api.Phase) { x.Top = 100000 }, api.Range{Lo: 11999, Hi: 14999}}, {func(p *api.Plan, x *api.Phase) { x.Top, x.Weight = 100001, 0 }, api.Range{Lo: 11999, Hi: 14998}},
 		{func(p *api.Plan, x *api.Phase) { x.Top = 1 << 36 }, api.Range{Lo: 1, Hi: 0}}, {func(p *api.Plan, x *api.Phase) { x.Sea, x.Light = 100000, 12500 }, api.Range{Lo: 0, Hi: 40000}}, {func(p *api.Plan, x *api.Phase) { x.Sea, x.Light = 100000, 11999 }, api.Range{Lo: 1, Hi: 0}}, {func(p *api.Plan, x *api.Phase) { x.Sea, x.Light = 100000, 15001 }, api.Range{Lo: 1, Hi: 0}}, {func(p *api.Plan, x *api.Phase) { x.Sea, x.Light = 50000, 12000 }, api.Range{Lo: 12000, Hi: 18000}}, {func(p *api.Plan, x *api.Phase) { x.Sea, x.Light = 99999, 12000 }, api.Range{Lo: 12000, Hi: 40000}},
+		{func(p *api.Plan, x *api.Phase) { x.Sea, x.Light = 50000, 18000 }, api.Range{Lo: 6000, Hi: 12000}}, {func(p *api.Plan, x *api.Phase) { x.Sea, x.Light = 50000, 18001 }, api.Range{Lo: 1, Hi: 0}}, {func(p *api.Plan, x *api.Phase) { p.Earth.PoreHi = line(0, 0, 100000, 1500000000) }, api.Range{Lo: 15000, Hi: 15000}}, {func(p *api.Plan, x *api.Phase) { p.Earth.PoreHi = line(0, 0, 100000, 1500000001) }, api.Range{Lo: 1, Hi: 0}},
 		{func(p *api.Plan, x *api.Phase) { p.Earth.PoreLo, p.Earth.PoreHi = line(0, 0), line(0, 0) }, api.Range{Lo: 0, Hi: 15000}}, {func(p *api.Plan, x *api.Phase) { p.Earth.FracLo = line(0, 0) }, api.Range{Lo: 1, Hi: 0}},
 	} {
 		p := example()

@@ -154,7 +154,7 @@ func TestP6_6Identify(t *testing.T) {
 	}{
 		{func(x *api.Shut) {}, api.OK}, {func(x *api.Shut) { x.Pipe.Lo = 101 }, api.ErrRange}, {func(x *api.Shut) { x.Casing.Lo = 401 }, api.ErrRange}, {func(x *api.Shut) { x.Gain.Lo = 2001 }, api.ErrRange}, {func(x *api.Shut) { x.Pipe.Lo = -1 }, api.ErrRange}, {func(x *api.Shut) { x.Casing.Hi = 1<<36 + 1 }, api.ErrRange}, {func(x *api.Shut) { x.Casing.Hi = 1 << 36 }, api.OK},
 		{func(x *api.Shut) { x.Casing.Lo, x.Casing.Hi = -1, 400 }, api.ErrRange}, {func(x *api.Shut) { x.Pipe = span(1<<36+1, 1<<36+1) }, api.ErrRange},
-		{func(x *api.Shut) { x.Weight = 0 }, api.ErrRange}, {func(x *api.Shut) { x.Weight = 40001 }, api.ErrRange}, {func(x *api.Shut) { x.Depth = 0 }, api.ErrRange}, {func(x *api.Shut) { x.Depth = 1<<20 + 1 }, api.ErrRange}, {func(x *api.Shut) { x.Depth = 1 << 20 }, api.OK}, {func(x *api.Shut) { x.Area = 0 }, api.ErrRange}, {func(x *api.Shut) { x.Area = 5001 }, api.ErrRange},
+		{func(x *api.Shut) { x.Weight = 0 }, api.ErrRange}, {func(x *api.Shut) { x.Weight, x.Depth = 1, 1 }, api.OK}, {func(x *api.Shut) { x.Weight = 40001 }, api.ErrRange}, {func(x *api.Shut) { x.Depth = 0 }, api.ErrRange}, {func(x *api.Shut) { x.Depth = 1<<20 + 1 }, api.ErrRange}, {func(x *api.Shut) { x.Depth = 1 << 20 }, api.OK}, {func(x *api.Shut) { x.Area = 0 }, api.ErrRange}, {func(x *api.Shut) { x.Area = 5001 }, api.ErrRange},
 		{func(x *api.Shut) { x.Gain = span(99, 2000) }, api.ErrRange}, {func(x *api.Shut) { x.Gain = span(100, 1<<30) }, api.OK}, {func(x *api.Shut) { x.Gain = span(100, 1<<30+1) }, api.ErrRange}, {func(x *api.Shut) { x.Area, x.Gain = 5000, span(5000, 5000) }, api.OK},
 		{func(x *api.Shut) { x.Casing.Lo = 99 }, api.ErrOrder}, {func(x *api.Shut) { x.Casing.Lo = 100 }, api.OK}, {func(x *api.Shut) { x.Casing.Lo, x.Area = 99, 0 }, api.ErrRange}, {func(x *api.Shut) { x.Pipe.Hi = 401 }, api.ErrOrder},
 	} {
@@ -169,6 +169,7 @@ func TestP6_6Identify(t *testing.T) {
 		want api.Ingress
 	}{
 		{api.Shut{Pipe: span(100, 110), Casing: span(400, 425), Gain: span(2050, 2150), Weight: 10, Depth: 1000, Area: 100}, api.Ingress{Pore: span(10100, 10110), Height: span(20, 22), Weight: span(-7, -3), Kind: api.InfluxGas}},
+		{api.Shut{Pipe: span(100, 150), Casing: span(400, 425), Gain: span(2050, 2150), Weight: 10, Depth: 1000, Area: 100}, api.Ingress{Pore: span(10100, 10150), Height: span(20, 22), Weight: span(-7, -1), Kind: api.InfluxGas}},
 		// One cm of influx, so that the difference is its weight.
 		{read(8500, 8500), api.Ingress{Pore: span(12000, 12000), Height: span(1, 1), Weight: span(3500, 3500), Kind: api.InfluxGas}}, {read(8499, 8499), api.Ingress{Pore: span(12000, 12000), Height: span(1, 1), Weight: span(3501, 3501), Kind: api.InfluxOil}},
 		{read(3001, 8499), api.Ingress{Pore: span(12000, 12000), Height: span(1, 1), Weight: span(3501, 8999), Kind: api.InfluxOil}}, {read(3000, 8499), api.Ingress{Pore: span(12000, 12000), Height: span(1, 1), Weight: span(3501, 9000), Kind: api.InfluxOpen}}, {read(3001, 8500), api.Ingress{Pore: span(12000, 12000), Height: span(1, 1), Weight: span(3500, 8999), Kind: api.InfluxOpen}},

@@ -132,6 +132,16 @@ func TestP7_2Examples(t *testing.T) {
 			t.Error(i, e)
 		}
 	}
+	// A point at the border of the kill mud, and one at that of the gas: both are below, even if no height there is whole.
+	border, circulate, small := w, p, k
+	circulate.Kind, border.Pipe, border.Points = api.KillWait, 950, []api.Knot{{At: 999050}}
+	if m, _ := At(border, circulate, k, 1, 0); m.Points[0] != rangeOf(1260000000-13000*9991, 1260000000-13000*9990) {
+		t.Error(m)
+	}
+	border.Step, border.Points[0].At, small.Volume = 1000050, 1000050, 1
+	if m, _ := At(border, p, small, 1, 0); m.Points[0] != m.Base || m.Base != rangeOf(1260000000-12000*10001, 1260000000-12000*10000) {
+		t.Error(m)
+	}
 	// At the top of the hole the point is below the gas, and the choke above it.
 	w.Points[0].At = 10000000
 	m, _ = At(w, p, k, 10, 0)

@@ -52,6 +52,12 @@ func TestP7_3Ends(t *testing.T) {
 		{func(w *api.Well, p *api.Program, k *api.Bubble) {
 			p.Weight, w.Points[0] = 15000, api.Knot{At: 2000050, V: 1199990000}
 		}, api.Outcome{Is: api.Unsure, Step: 8, Why: api.WhyDead}},
+		{func(w *api.Well, p *api.Program, k *api.Bubble) {
+			p.Weight, w.Points[0] = 15000, api.Knot{At: 2000050, V: 1199985000}
+		}, api.Outcome{Is: api.Unsure, Step: 8, Why: api.WhyDead}},
+		{func(w *api.Well, p *api.Program, k *api.Bubble) {
+			p.Weight, w.Points[0] = 15000, api.Knot{At: 2000050, V: 1199984999}
+		}, api.Outcome{Is: api.Broken, Step: 8, Why: api.WhyDead}},
 		{func(w *api.Well, p *api.Program, k *api.Bubble) { p.Kind = api.KillWait }, api.Outcome{Is: api.Killed, Step: 7}},
 		{func(w *api.Well, p *api.Program, k *api.Bubble) { p.Kind = api.KillBull }, api.Outcome{Is: api.Killed, Step: 1}},
 		{func(w *api.Well, p *api.Program, k *api.Bubble) { p.Kind, p.Weight = api.KillBull, 18001 }, api.Outcome{Is: api.Broken, Step: 1, Err: -1, Why: api.WhyChoke}},
@@ -165,7 +171,7 @@ func TestP7_5Tolerance(t *testing.T) {
 		want       int
 		e          api.Errno
 	}{
-		{1250000000, 65536, 0, 0, api.OK}, {1250000000, 65536, 5, 5, api.OK}, {1250000000, 65536, 64, 23, api.OK}, {0, 65536, 5, 0, api.ErrRange}, {1<<34 + 1, 65536, 5, 0, api.ErrRange}, {1250000000, 0, 5, 0, api.ErrRange}, {1250000000, 65537, 5, 0, api.ErrRange}, {1250000000, 65536, -1, 0, api.ErrRange}, {1250000000, 65536, 65, 0, api.ErrRange}, {1250000000, 1, 64, 64, api.OK},
+		{1250000000, 65536, 0, 0, api.OK}, {1250000000, 65536, 5, 5, api.OK}, {1250000000, 65536, 64, 23, api.OK}, {1250000000, 65536, 23, 23, api.OK}, {1250000000, 65536, 24, 23, api.OK}, {1 << 34, 65536, 5, 0, api.OK}, {0, 65536, 5, 0, api.ErrRange}, {1<<34 + 1, 65536, 5, 0, api.ErrRange}, {1250000000, 0, 5, 0, api.ErrRange}, {1250000000, 65537, 5, 0, api.ErrRange}, {1250000000, 65536, -1, 0, api.ErrRange}, {1250000000, 65536, 65, 0, api.ErrRange}, {1250000000, 1, 64, 64, api.OK},
 	} {
 		n, e := Tolerance(w, p, c.pore, c.step, c.most)
 		want := 0
@@ -211,6 +217,71 @@ func TestP7_5Choose(t *testing.T) {
 	if n, e := Choose(w, nil, nil, nil); n != -1 || e != api.OK {
 		t.Error(n, e)
 	}
+}
+
+// TestP7_3Again finds outcomes from the moments of At: the first one outside, of all steps and errors in order.
+func TestP7_3Again(t *testing.T) {
+	roll := dice(730)
+	late := 0
+	for range 400 {
+		w, p, k := randomWell(roll)
+		last, ok := Last(w, p, k)
+		// Let just one kind of trouble begin where the pressure at the choke is greatest.
+		most := int64(0)
+		for n := range last + 1 {
+			for err := -1; err <= 1; err++ {
+				m, _ := At(w, p, k, n, err)
+				most = max(most, m.Surface.Hi)
+			}
+		}
+		w.Limit = max(0, most-roll(2))
+		for i := range w.Points {
+			w.Points[i].V += roll(2) * 600000000
+		}
+		want, found := api.Outcome{}, false
+		for n := 0; n <= last && !found; n++ {
+			for err := -1; err <= 1 && !found; err++ {
+				m, _ := At(w, p, k, n, err)
+				want, found = first(w, p, k, m, err)
+				want.Step, want.Err = n, err
+			}
+		}
+		o, _ := Ends(w, p, k)
+		if found && o != want || !found && ok && o.Why != api.WhyDead && o.Is != api.Killed || !found && !ok && o.Why != api.WhyLong {
+			t.Fatal(o, want, found)
+		}
+		if found && want.Step > 0 || !found {
+			late++
+		}
+	}
+	if late < 50 {
+		t.Error(late)
+	}
+}
+
+// first is the first reason for which a moment is outside of the window.
+func first(w api.Well, p api.Program, k api.Bubble, m api.Moment, err int) (api.Outcome, bool) {
+	is := func(sure bool) int {
+		if sure {
+			return api.Broken
+		}
+		return api.Unsure
+	}
+	if k.Pore+p.Margin+int64(err)*p.Err < k.Pore {
+		return api.Outcome{Is: api.Broken, Why: api.WhyPore}, true
+	}
+	for i, x := range m.Points {
+		if x.Hi > w.Points[i].V {
+			return api.Outcome{Is: is(x.Lo > w.Points[i].V), Why: api.WhyFrac, Point: i}, true
+		}
+	}
+	if m.Surface.Lo < 0 {
+		return api.Outcome{Is: is(m.Surface.Hi < 0), Why: api.WhyChoke}, true
+	}
+	if m.Surface.Hi > w.Limit {
+		return api.Outcome{Is: is(m.Surface.Lo > w.Limit), Why: api.WhyLimit}, true
+	}
+	return api.Outcome{}, false
 }
 
 // leavesWindow reports whether a moment is outside of the window, for certain or perhaps.

@@ -26,7 +26,7 @@ func TestP1_5Examples(t *testing.T) {
 	for i, c := range []struct {
 		la, lb []api.Source
 		want   int64
-	}{{qs, qs, 399}, {qs, u, 299}, {nil, nil, 499}, {qs, nil, 399}, {nil, qs, 399}, {qs, []api.Source{same(1, 1, at(-100, 0, 0))}, 299}} {
+	}{{qs, qs, 399}, {qs, u, 299}, {nil, nil, 499}, {qs, nil, 399}, {nil, qs, 399}, {qs, []api.Source{same(1, 1, at(-100, 0, 0))}, 299}, {[]api.Source{same(99, 1, s)}, []api.Source{same(99, 1, s)}, 399}, {[]api.Source{same(99, 1, s)}, qs, 299}} {
 		if g, e := Gap(a, c.la, b, c.lb); g != c.want || e != api.OK {
 			t.Error(i, g, e)
 		}

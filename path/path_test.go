@@ -76,7 +76,7 @@ func TestP1_1Check(t *testing.T) {
 		{well(o, o), api.ErrRange}, {well(o, at(0, 0, 99)), api.ErrRange}, {well(o, at(0, 0, 1<<17)), api.OK}, {well(o, at(0, 0, 1<<17+1)), api.ErrRange},
 		{well(o, at(0, 0, 500), at(500, 0, 0)), api.ErrClash}, {well(o, at(0, 0, 500), at(300, 0, -400)), api.ErrClash},
 		{well(o, at(0, 0, 500), at(4200, 0, 4)), api.ErrForm}, {well(o, at(0, 0, 500), at(99, 0, 20)), api.OK},
-		{well(o, at(99, 0, 20), at(-20, 0, 99)), api.ErrClash},
+		{well(o, at(99, 0, 20), at(-20, 0, 99)), api.ErrClash}, {well(o, at(22, 145, 10), at(-72, 1, 144)), api.OK}, // a product of 0, and of 1
 		{well(at(0, 0, 399), at(300, 0, -400)), api.ErrRange}, {well(at(0, 0, 400), at(300, 0, -400)), api.OK},
 		{well(at(0, -1<<20, 0), at(0, -300, 400)), api.ErrRange}, {well(at(0, 0, 1<<20-399), at(300, 0, 400)), api.ErrRange},
 		{well(at(0, 0, 0), at(300, 0, -400), at(1, 2, 3)), api.ErrRange}, // of the joint before the next leg
@@ -136,9 +136,9 @@ func TestP1_2Turn(t *testing.T) {
 		e    api.Errno
 	}{
 		{at(0, 0, 50000), at(0, 30000, 40000), api.Part{N: 1, D: 5}, api.OK}, {at(3, 0, 4), at(6, 0, 8), api.Part{N: 0, D: 1}, api.OK},
-		{at(3, 0, 4), at(4, 0, -3), api.Part{N: 1, D: 1}, api.OK}, {at(0, 0, 1), at(0, 0, -9), api.Part{N: 2, D: 1}, api.OK},
+		{at(3, 0, 4), at(4, 0, -3), api.Part{N: 1, D: 1}, api.OK}, {at(0, 0, 1), at(0, 0, -9), api.Part{N: 2, D: 1}, api.OK}, {at(0, 0, -9), at(0, 0, 1), api.Part{N: 2, D: 1}, api.OK},
 		{at(1, 2, 2), at(2, 3, 6), api.Part{N: 1, D: 21}, api.OK}, {at(0, 3, 4), at(0, -3, 4), api.Part{N: 18, D: 25}, api.OK},
-		{at(0, 0, 0), at(0, 0, 1), api.Part{}, api.ErrForm}, {at(0, 0, 1), at(0, 0, 0), api.Part{}, api.ErrForm}, {at(1, 1, 1), at(0, 0, 1), api.Part{}, api.ErrForm},
+		{at(0, 0, 0), at(0, 0, 1), api.Part{}, api.ErrForm}, {at(0, 0, 1), at(0, 0, 0), api.Part{}, api.ErrForm}, {at(1, 1, 1), at(0, 0, 1), api.Part{}, api.ErrForm}, {at(0, 0, 1), at(1, 1, 1), api.Part{}, api.ErrForm},
 		{at(0, 0, 1), at(0, 0, 1<<17), api.Part{N: 0, D: 1}, api.OK}, {at(0, 0, 1), at(0, 0, 1<<17+1), api.Part{}, api.ErrForm}, {at(0, 0, 1<<17+1), at(0, 0, 1), api.Part{}, api.ErrForm},
 		{at(-1<<63, -1<<63, -1<<63), at(0, 0, 1), api.Part{}, api.ErrForm},
 	} {

@@ -93,6 +93,10 @@ func TestP1_6Border(t *testing.T) {
 	if p, e := Plan(at(0, 0, 299), at(0, 1, 0), g); e != api.OK || !slices.Equal(p.Legs, []api.Vec{at(0, 400, 300), at(0, 400, -300)}) {
 		t.Error(p, e)
 	}
+	slight := api.Goal{Dirs: []api.Vec{at(0, 0, 1000), at(-72, 1, 144)}, Mult: 1, Legs: 1, Turn: api.Part{N: 1, D: 1}, Into: api.Box{Lo: at(0, 1, 144), Hi: at(0, 1, 144)}}
+	if p, e := Plan(at(72, 0, 0), at(22, 145, 10), slight); e != api.OK || len(p.Legs) != 1 { // the product of both is 1
+		t.Error(p, e)
+	}
 	if _, e := Plan(at(0, 0, -1), at(0, 1, 1), g); e != api.ErrRange {
 		t.Error(e)
 	}

@@ -53,7 +53,7 @@ func TestP4_2Side(t *testing.T) {
 		want api.Range
 	}{
 		{v(0, 0, 50000), v(0, 30000, 40000), span(632455, 632456)}, {v(0, 0, 5), v(0, 0, 7), span(0, 0)}, {v(0, 0, 5), v(0, 0, -7), span(2000000, 2000000)}, {v(0, 0, 5), v(1, 0, 0), span(1414213, 1414214)}, {v(0, 0, 0), v(1, 0, 0), span(0, 0)}, {v(0, 0, 1<<17+1), v(1, 0, 0), span(0, 0)}, {v(1, 1, 1), v(1, 0, 0), span(0, 0)},
-		{v(0, 0, 25), v(0, 7, 24), span(282842, 282843)}, {v(67566, 43278, 46061), v(38344, -9192, 96030), span(788835, 788836)},
+		{v(0, 0, 25), v(0, 7, 24), span(282842, 282843)}, {v(39, 228, 264), v(-97, 54, 234), span(673266, 673267)}, {v(232, 192, 99), v(166, 258, 51), span(333727, 333728)}, {v(67566, 43278, 46061), v(38344, -9192, 96030), span(788835, 788836)},
 	} {
 		if r := Bend(c.v, c.w); r != c.want {
 			t.Error(i, r)
@@ -80,6 +80,10 @@ func TestP4_3CheckCase(t *testing.T) {
 		if e != c.e || f != c.e || c.e != api.OK && (g != c.e || ok || n != 0) {
 			t.Error(i, e, f, g)
 		}
+	}
+	light := str(tube(1, 100, 1001, 10, 2)) // of a wet weight of 1 in a mud of 100
+	if e := CheckCase(light, pull(100, 0, 0, 0)); e != api.OK {
+		t.Error(e)
 	}
 	if _, e := Loads(s, well(v(0, 0, 100)), api.Case{}); e != api.ErrLong {
 		t.Error(e)
@@ -247,6 +251,44 @@ func TestP4_3Range(t *testing.T) {
 	}
 }
 
+// TestP4_3Bent has a tension that is too great after a bend, and not any more after the piece above it, which goes upwards.
+func TestP4_3Bent(t *testing.T) {
+	p := well(v(0, 70, -240), v(0, 240, -70), v(0, 240, 70), v(0, 70, 240), v(0, 240, 70))
+	p.From.Z = 1000
+	s := str(tube(5, 250, 4000000, 1, 9))
+	lo, hi := int64(0), int64(1<<40)
+	for lo+1 < hi { // the greatest force at the bit with which there is no error
+		middle := (lo + hi) / 2
+		if _, e := Loads(s, p, pull(0, 0, 600, middle)); e == api.OK {
+			lo = middle
+		} else {
+			hi = middle
+		}
+	}
+	l := exact(s, p, pull(0, 0, 600, hi))
+	b := Bend(p.Legs[0], p.Legs[1]).Hi
+	tension := l[3].Tension.Hi
+	bent := new(big.Int).Mul(big.NewInt(tension), big.NewInt(600*b))
+	bent.Div(bent.Add(bent, big.NewInt(999999999)), big.NewInt(1000000000))
+	if after := bent.Int64() + tension; after <= 1<<42 || after > 1<<42+9 || l[4].Tension.Hi >= 1<<42 {
+		t.Error(hi, after-1<<42, l[4].Tension.Hi-1<<42)
+	}
+}
+
+// TestP4_3Spin has a tension that may be of either sign.
+func TestP4_3Spin(t *testing.T) {
+	c := contact{lower: func(tension, mu int64) int64 { return tension * mu }, upper: func(tension, mu int64) int64 { return tension * mu }, out: 3}
+	for i, k := range []struct {
+		tension, torque api.Range
+	}{
+		{span(-100, 50), span(0, 300)}, {span(-50, 100), span(0, 300)}, {span(50, 101), span(75, 303)}, {span(-101, -51), span(76, 303)}, {span(0, 7), span(0, 21)}, {span(-7, 0), span(0, 21)},
+	} {
+		if h := rubSpin(hold{Range: k.tension}, c, span(1, 2)); h.Range != k.tension || h.torque != k.torque {
+			t.Error(i, h)
+		}
+	}
+}
+
 func TestP4_4Strong(t *testing.T) {
 	s := example()
 	c := pull(0, 200, 300, 5)
@@ -306,6 +348,11 @@ func TestP4_4Buckles(t *testing.T) {
 	if l, e := Buckles(s, p, down, 30); e != api.OK || !slices.Equal(l, []int{0, 1, 2}) {
 		t.Error(l, e)
 	}
+	// The side and p are rounded down: 223 of 300, and 743 of a wet weight of 1000.
+	odd := api.Tube{Air: 1000, Stiff: 77777, Out: 9}
+	if n := critical(odd, v(100, 200, 200), 0, 30); n != 1000*4691 {
+		t.Error(n)
+	}
 	for hole, want := range map[int64]api.Errno{13: api.ErrRange, 14: api.OK, 200: api.OK, 201: api.ErrRange, -1 << 63: api.ErrRange, 1<<63 - 1: api.ErrRange} {
 		if l, e := Buckles(s, p, down, hole); e != want || e != api.OK && l != nil {
 			t.Error(hole, l, e)
@@ -314,6 +361,23 @@ func TestP4_4Buckles(t *testing.T) {
 	s.Tubes[1].Out = 30
 	if _, e := Buckles(s, p, down, 30); e != api.ErrRange {
 		t.Error(e)
+	}
+}
+
+// TestP4_4After lets friction alone press a piece together, in a leg without any fall: the least tension after it counts.
+func TestP4_4After(t *testing.T) {
+	p := well(v(0, 8000, 6000), v(0, 10000, 0))
+	s := str(tube(1, 1000, 300000, 30, 13), tube(14, 1000, 300000, 30, 13))
+	for i := range s.Tubes {
+		s.Tubes[i].Stiff = 1000000
+	}
+	force := critical(s.Tubes[0], p.Legs[1], 0, 30)
+	c := api.Case{Mode: api.ModeDown, Mu: span(0, 600)}
+	for bit, want := range map[int64]bool{force - 180000000: false, force - 180000000 + 1: true, force + 1: true} {
+		c.Bit = bit
+		if l, e := Buckles(s, p, c, 30); e != api.OK || slices.Contains(l, 0) != want {
+			t.Error(bit, l, e)
+		}
 	}
 }
 

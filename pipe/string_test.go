@@ -44,7 +44,7 @@ func TestP4_1Check(t *testing.T) {
 	}{
 		{func(t *api.Tube) {}, true}, {func(t *api.Tube) { t.Count = 0 }, false}, {func(t *api.Tube) { t.Count = 400 }, true}, {func(t *api.Tube) { t.Count = 401 }, false}, {func(t *api.Tube) { t.Len = 99 }, false}, {func(t *api.Tube) { t.Len = 4000 }, true}, {func(t *api.Tube) { t.Len = 4001 }, false},
 		{func(t *api.Tube) { t.Air = 0 }, false}, {func(t *api.Tube) { t.Air = 4000000 }, true}, {func(t *api.Tube) { t.Air = 4000001 }, false}, {func(t *api.Tube) { t.Steel = 0 }, false}, {func(t *api.Tube) { t.Steel = 400 }, true}, {func(t *api.Tube) { t.Steel = 401 }, false},
-		{func(t *api.Tube) { t.Out = 1 }, false}, {func(t *api.Tube) { t.Out = 90 }, true}, {func(t *api.Tube) { t.Out = 91 }, false}, {func(t *api.Tube) { t.Yield = 0 }, false}, {func(t *api.Tube) { t.Yield = 1 << 42 }, true}, {func(t *api.Tube) { t.Yield = 1<<42 + 1 }, false},
+		{func(t *api.Tube) { t.Out = 1 }, false}, {func(t *api.Tube) { t.Out = 90 }, true}, {func(t *api.Tube) { t.Out = 91 }, false}, {func(t *api.Tube) { t.Yield, t.Twist = 1, 1 }, true}, {func(t *api.Tube) { t.Yield = 0 }, false}, {func(t *api.Tube) { t.Yield = 1 << 42 }, true}, {func(t *api.Tube) { t.Yield = 1<<42 + 1 }, false},
 		{func(t *api.Tube) { t.Twist = 0 }, false}, {func(t *api.Tube) { t.Twist = 1 << 48 }, true}, {func(t *api.Tube) { t.Twist = 1<<48 + 1 }, false}, {func(t *api.Tube) { t.Stiff = -1 }, false}, {func(t *api.Tube) { t.Stiff = 1 << 34 }, true}, {func(t *api.Tube) { t.Stiff = 1<<34 + 1 }, false},
 		{func(t *api.Tube) { t.Used = -1 }, false}, {func(t *api.Tube) { t.Used = 1 << 40 }, true}, {func(t *api.Tube) { t.Used = 1<<40 + 1 }, false}, {func(t *api.Tube) { t.Count = 1<<63 - 1 }, false},
 	} {

@@ -53,13 +53,16 @@ func TestWide(t *testing.T) {
 	if !a.Less(b) || b.Less(a) || a.Less(a) || a != (Wide{Hi: 1 << 16}) {
 		t.Error(a, b)
 	}
+	if !(Wide{5, 1}).Less(Wide{5, 2}) || (Wide{5, 2}).Less(Wide{5, 1}) || (Wide{1, 9}).Less(Wide{1, 5}) || (Wide{2, 0}).Less(Wide{1, 9}) {
+		t.Error("Less of equal upper words")
+	}
 	if !Product(3, 5).Less(Product(2, 8)) || !Product(1<<63-1, 1).Less(Product(1<<62, 4)) {
 		t.Error("Less")
 	}
 }
 
 func TestSmall(t *testing.T) {
-	if Sum(1, 2) != 3 || Sum(1<<62, 1<<62) != 1<<63-1 || Sum(1<<63-1, 1<<63-1) != 1<<63-1 {
+	if Sum(0, 0) != 0 || Sum(1, 2) != 3 || Sum(1<<62, 1<<62) != 1<<63-1 || Sum(1<<63-1, 1<<63-1) != 1<<63-1 {
 		t.Error("Sum")
 	}
 	if Abs(-3) != 3 || Abs(3) != 3 || !Within(2, 2, 2) || Within(1, 2, 3) || Within(4, 2, 3) {
