@@ -57,8 +57,8 @@ func add(r api.Range, weight int64, height api.Range) api.Range {
 	return api.Range{Lo: r.Lo + weight*height.Lo, Hi: r.Hi + weight*height.Hi}
 }
 
-// top is the place and the height at the top of a hole with this height line.
-func top(heights api.Line) api.Knot {
+// head is the place and the height at the top of a hole with this height line.
+func head(heights api.Line) api.Knot {
 	return heights.Knots[len(heights.Knots)-1]
 }
 
@@ -66,9 +66,9 @@ func top(heights api.Line) api.Knot {
 func press(h api.Hole, l []api.Slug, surface, u int64) api.Range {
 	heights := Height(h)
 	upper := l[len(l)-1].Weight
-	full := surface + upper*top(heights).V
+	full := surface + upper*head(heights).V
 	sum := api.Range{Lo: full, Hi: full}
-	weight, boundary := upper, top(heights).At
+	weight, boundary := upper, head(heights).At
 	for i := len(l) - 1; i > 0; i-- {
 		boundary -= l[i].Volume
 		if boundary <= u {
@@ -119,13 +119,13 @@ func Pump(h api.Hole, l []api.Slug, s api.Slug) (now, out []api.Slug, e api.Errn
 }
 
 // Equivalent returns the enclosure of the pressure at the place u, divided by its depth.
-func Equivalent(h api.Hole, l []api.Slug, surface, u int64) (api.Range, api.Errno) {
-	p, e := Press(h, l, surface, u)
+func Equivalent(h api.Hole, l []api.Slug, top, u int64) (api.Range, api.Errno) {
+	p, e := Press(h, l, top, u)
 	if e != api.OK {
 		return api.Range{}, e
 	}
 	heights := Height(h)
-	depth := add(api.Range{Lo: top(heights).V, Hi: top(heights).V}, -1, earth.At(heights, u))
+	depth := add(api.Range{Lo: head(heights).V, Hi: head(heights).V}, -1, earth.At(heights, u))
 	if depth.Hi == 0 {
 		return api.Range{}, api.ErrRange
 	}

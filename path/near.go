@@ -78,7 +78,7 @@ func (z *zonotope) addCommon(a, b survey, of, other func(s api.Source) vec) {
 
 // jointsClearance is up to which radius the joint i of a and the joint j of b cannot touch.
 func jointsClearance(a survey, i int, b survey, j int) int64 {
-	z := zonotope{centre: joint(a.path, i).minus(joint(b.path, j))}
+	z := zonotope{centre: placeOf(a.path, i).minus(placeOf(b.path, j))}
 	at := func(joint int) func(s api.Source) vec {
 		return func(s api.Source) vec { return shift(s, joint) }
 	}
@@ -89,8 +89,8 @@ func jointsClearance(a survey, i int, b survey, j int) int64 {
 // legsClearance is up to which radius the leg i of a and the leg j of b are separate. Lengths are doubled here.
 func legsClearance(a survey, i int, b survey, j int) int64 {
 	v, w := vec(a.path.Legs[i]), vec(b.path.Legs[j])
-	middleA := joint(a.path, i).times(2).plus(v)
-	middleB := joint(b.path, j).times(2).plus(w)
+	middleA := placeOf(a.path, i).times(2).plus(v)
+	middleB := placeOf(b.path, j).times(2).plus(w)
 	z := zonotope{centre: middleA.minus(middleB)}
 	z.add(v)
 	z.add(w)

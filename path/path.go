@@ -92,8 +92,8 @@ func hasLeg(p api.Path, leg int) bool {
 	return 0 <= leg && leg < len(p.Legs)
 }
 
-// joint is the place of a joint that the valid path has.
-func joint(p api.Path, n int) vec {
+// placeOf is the place of a joint that the valid path has.
+func placeOf(p api.Path, n int) vec {
 	at := vec(p.From)
 	for _, leg := range p.Legs[:n] {
 		at = at.plus(vec(leg))

@@ -92,19 +92,19 @@ func search(from, first vec, g api.Goal) []api.Vec {
 }
 
 // Sidetrack returns the path that leaves p at a joint for a goal.
-func Sidetrack(p api.Path, n int, g api.Goal) (api.Path, api.Errno) {
+func Sidetrack(p api.Path, joint int, g api.Goal) (api.Path, api.Errno) {
 	if e := Check(p); e != api.OK {
 		return api.Path{}, e
 	}
-	if n < 1 || n > len(p.Legs) {
+	if joint < 1 || joint > len(p.Legs) {
 		return api.Path{}, api.ErrMissing
 	}
-	side, e := Plan(api.Vec(joint(p, n)), p.Legs[n-1], g)
+	side, e := Plan(api.Vec(placeOf(p, joint)), p.Legs[joint-1], g)
 	if e != api.OK {
 		return api.Path{}, e
 	}
-	if n+len(side.Legs) > api.MaxLegs {
+	if joint+len(side.Legs) > api.MaxLegs {
 		return api.Path{}, api.ErrLong
 	}
-	return api.Path{From: p.From, Legs: slices.Concat(p.Legs[:n], side.Legs)}, api.OK
+	return api.Path{From: p.From, Legs: slices.Concat(p.Legs[:joint], side.Legs)}, api.OK
 }

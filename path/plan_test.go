@@ -143,7 +143,7 @@ func meets(from, first api.Vec, g api.Goal, dirs []int, legs []api.Vec) bool {
 		}
 		before = l
 	}
-	return vec(joint(p, len(legs))).within(vec(g.Into.Lo), vec(g.Into.Hi))
+	return vec(placeOf(p, len(legs))).within(vec(g.Into.Lo), vec(g.Into.Hi))
 }
 
 // TestP1_13 compares plans with all paths there are.

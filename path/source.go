@@ -77,32 +77,32 @@ func checkJoint(p api.Path, l []api.Source, joint int) api.Errno {
 }
 
 // Where returns the least box with all possible places of a joint.
-func Where(p api.Path, l []api.Source, n int) (api.Box, api.Errno) {
-	if e := checkJoint(p, l, n); e != api.OK {
+func Where(p api.Path, l []api.Source, joint int) (api.Box, api.Errno) {
+	if e := checkJoint(p, l, joint); e != api.OK {
 		return api.Box{}, e
 	}
 	far := vec{}
 	for _, s := range l {
-		far = far.plus(shift(s, n).abs())
+		far = far.plus(shift(s, joint).abs())
 	}
-	at := joint(p, n)
+	at := placeOf(p, joint)
 	return api.Box{Lo: api.Vec(at.minus(far)), Hi: api.Vec(at.plus(far))}, api.OK
 }
 
 // Actual returns 1,000 times the place of a joint for coefficients in thousandths.
-func Actual(p api.Path, l []api.Source, c []int64, n int) (api.Vec, api.Errno) {
-	if e := checkJoint(p, l, n); e != api.OK {
+func Actual(p api.Path, l []api.Source, c []int64, joint int) (api.Vec, api.Errno) {
+	if e := checkJoint(p, l, joint); e != api.OK {
 		return api.Vec{}, e
 	}
 	if len(c) < len(l) {
 		return api.Vec{}, api.ErrShort
 	}
-	at := joint(p, n).times(1000)
+	at := placeOf(p, joint).times(1000)
 	for i, s := range l {
 		if !whole.Within(c[i], -1000, 1000) {
 			return api.Vec{}, api.ErrRange
 		}
-		at = at.plus(shift(s, n).times(c[i]))
+		at = at.plus(shift(s, joint).times(c[i]))
 	}
 	return api.Vec(at), api.OK
 }
