@@ -171,6 +171,40 @@ func TestP9_3Results(t *testing.T) {
 	}
 }
 
+// TestP9_12 does entries with an error at a site, alone and among others.
+func TestP9_12(t *testing.T) {
+	roll := dice(912)
+	refused := 0
+	for range 300 {
+		s := api.Site{Crew: 3, Offer: -1, Press: roll(5), House: randomHouse(roll), Broken: -1}
+		var l []api.Entry
+		for range 30 {
+			e := randomEntry(roll, s)
+			before := Copy(s)
+			x, err := Do(s, e)
+			if !Same(s, before) {
+				t.Fatal("the site is changed", e)
+			}
+			y, n, f := Run(s, []api.Entry{e})
+			if err == api.OK {
+				l = append(l, e)
+				s = x
+				continue
+			}
+			refused++
+			if !Same(y, s) || n != 0 || f != err || !Same(x, api.Site{}) {
+				t.Fatal("an entry with an error changes something", e, n, f)
+			}
+			if z, n, f := Run(s, append([]api.Entry{entry(s.Tick, api.EntryFail, 0, -1, 0, 0)}, l...)); !Same(z, s) || n != 0 || f != api.ErrRange {
+				t.Fatal("an entry after one with an error is done", n, f)
+			}
+		}
+	}
+	if refused < 1000 {
+		t.Error(refused)
+	}
+}
+
 // broke is a site at which an operation goes on without barriers since 20.
 func broke() api.Site {
 	s := working()

@@ -6,6 +6,7 @@ import (
 
 	"moonpool/api"
 	"moonpool/earth"
+	"moonpool/kick"
 	"moonpool/kill"
 )
 
@@ -225,7 +226,8 @@ func TestP10_2Highest(t *testing.T) {
 	}
 }
 
-func TestP10_2Accept(t *testing.T) {
+// TestP10_9 accepts plans, and names the first phase that is not accepted.
+func TestP10_9(t *testing.T) {
 	p := two()
 	if v, e := Accept(p); v != (api.Verdict{OK: true}) || e != api.OK {
 		t.Error(v, e)
@@ -286,6 +288,34 @@ func TestP10_7(t *testing.T) {
 	}
 }
 
+// inTime checks that the kicks of a phase are noticed before they are greater than the last volume.
+func inTime(t *testing.T, x api.Phase) {
+	for _, k := range []api.Kick{{Rate: x.Kicks.Rate.Lo, Grow: x.Kicks.Grow.Lo}, {Rate: x.Kicks.Rate.Hi, Grow: x.Kicks.Grow.Hi}} {
+		if ticks, gain, e := kick.Caught(x.Sensors, k); ticks > x.Notice || gain > x.Volumes[len(x.Volumes)-1] || e != api.OK {
+			t.Error(k, ticks, gain, e)
+		}
+	}
+}
+
+// keepsRock checks that all kicks of a phase are killed without a pressure that breaks the rock of a truth.
+func keepsRock(t *testing.T, x api.Phase, truth api.Truth) {
+	for _, v := range x.Volumes {
+		for _, pore := range x.Pores {
+			run, e := kill.Run(x.Well, x.Program, api.Bubble{Volume: v, Pore: pore}, []int{1, -1, 0, 1})
+			if e != api.OK {
+				t.Error(e)
+			}
+			for n, m := range run {
+				for i, p := range x.Well.Points {
+					if f := earth.At(truth.Frac, x.To-p.At/100); m.Points[i].Hi > f.Lo {
+						t.Error(v, pore, n, i, m.Points[i], f)
+					}
+				}
+			}
+		}
+	}
+}
+
 // TestP10_5 checks what follows from an accepted plan for a truth that fits: P10.5, P10.6 and P10.8.
 func TestP10_5(t *testing.T) {
 	truth := api.Truth{Pore: line(0, 0, 50000, 500000000, 100000, 1150000000), Frac: line(0, 350000000, 100000, 1600000000)}
@@ -300,11 +330,8 @@ func TestP10_5(t *testing.T) {
 				t.Error(phase, z, s, loss)
 			}
 		}
-		for _, point := range x.Well.Points {
-			if f := earth.At(truth.Frac, x.To-point.At/100); point.V > f.Lo {
-				t.Error(point, f)
-			}
-		}
+		inTime(t, x)
+		keepsRock(t, x, truth)
 	}
 	for _, r := range []api.Report{{Kind: api.ReportDry, Z: 100000, P: 1150000000}, {Kind: api.ReportHeld, Z: 100000, P: 1600000000}, {Kind: api.ReportInflux, Z: 0, P: 0}, {Kind: api.ReportLeak, Z: 100000, P: 1700000000}} {
 		more := Copy(p)

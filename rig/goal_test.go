@@ -51,9 +51,6 @@ func TestP8_5Examples(t *testing.T) {
 			t.Error(worst, stuck, e)
 		}
 	}
-	if worst, stuck, e := Ready(example(), goal, 0); worst != 4 || stuck != 0 || e != api.OK {
-		t.Error(worst, stuck, e)
-	}
 	// A wall between both halves.
 	walled := api.Rig{Places: []int{5, 2}, Bans: []api.Ban{ban6(0, 2, 2, 1, 0, 1)}}
 	if n, e := Ticks(walled, []int{0, 0}, spans(4, 4, 0, 1), 0); n != 0 || e != api.ErrLate {
@@ -62,12 +59,6 @@ func TestP8_5Examples(t *testing.T) {
 	if m, e := Next(walled, []int{0, 0}, spans(4, 4, 0, 1), 0); m != nil || e != api.ErrLate {
 		t.Error(m, e)
 	}
-	if worst, stuck, e := Ready(walled, spans(4, 4, 0, 1), 2); worst != 3 || stuck != 4 || e != api.OK {
-		t.Error(worst, stuck, e)
-	}
-	if worst, stuck, e := Ready(walled, spans(2, 2, 0, 1), 0); worst != 0 || stuck != 8 || e != api.OK {
-		t.Error(worst, stuck, e) // no safe state is in the goal
-	}
 	// Equal moves: the first one by machines, with -1 first.
 	free := api.Rig{Places: []int{5, 5}}
 	if m, _ := Next(free, []int{2, 2}, spans(0, 4, 0, 0), 0); !slices.Equal(m, []int{-1, -1}) {
@@ -75,6 +66,25 @@ func TestP8_5Examples(t *testing.T) {
 	}
 	if m, _ := Next(free, []int{2, 2}, spans(4, 4, 0, 4), 0); !slices.Equal(m, []int{1, -1}) {
 		t.Error(m)
+	}
+}
+
+func TestP8_6Ready(t *testing.T) {
+	walled := api.Rig{Places: []int{5, 2}, Bans: []api.Ban{ban6(0, 2, 2, 1, 0, 1)}}
+	for i, c := range []struct {
+		r            api.Rig
+		goal         []api.Span
+		losses       int
+		worst, stuck int
+		e            api.Errno
+	}{
+		{example(), spans(2, 2, 0, 0), 0, 4, 0, api.OK}, {example(), spans(2, 2, 0, 0), 2, 6, 0, api.OK}, {walled, spans(4, 4, 0, 1), 2, 3, 4, api.OK}, {walled, spans(0, 4, 0, 1), 2, 0, 0, api.OK},
+		{walled, spans(2, 2, 0, 1), 0, 0, 8, api.OK}, // no safe state is in the goal
+		{api.Rig{}, nil, 9, 0, 0, api.ErrShort}, {walled, spans(4, 4), 9, 0, 0, api.ErrForm}, {walled, spans(4, 5, 0, 1), 9, 0, 0, api.ErrRange}, {walled, spans(4, 4, 0, 1), 3, 0, 0, api.ErrRange}, {walled, spans(4, 4, 0, 1), -1, 0, 0, api.ErrRange},
+	} {
+		if worst, stuck, e := Ready(c.r, c.goal, c.losses); worst != c.worst || stuck != c.stuck || e != c.e {
+			t.Error(i, worst, stuck, e)
+		}
 	}
 }
 
@@ -126,7 +136,8 @@ func (o *oracle) holds(s, m []int, losses, n int) bool {
 	return true
 }
 
-func TestP8_5Oracle(t *testing.T) {
+// TestP8_14 compares Ticks and Next with the oracle in all safe states, and Ready with the greatest of them: P8.5, P8.6 and P8.14.
+func TestP8_14(t *testing.T) {
 	roll := dice(85)
 	late, far := 0, 0
 	for range 60 {
@@ -169,7 +180,7 @@ func TestP8_5Oracle(t *testing.T) {
 				t.Fatal(r, s, goal, losses, got, n, move, want)
 			}
 		}
-		if a, b, e := Ready(r, goal, losses); a != worst || b != stuck || e != api.OK { // P8.14
+		if a, b, e := Ready(r, goal, losses); a != worst || b != stuck || e != api.OK {
 			t.Fatal(a, b, worst, stuck)
 		}
 	}
